@@ -9,10 +9,11 @@ import (
 	"loanword/api"
 	"loanword/lex"
 	"loanword/parse"
+	"loanword/print"
 	"loanword/tree"
 )
 
-// P4.3: what a tree is written as is taken as that tree; and what is taken is, written again, taken as the same. (Written by this test's own writer.)
+// P4.3: what a tree is written as is taken as that tree; and what is taken is, written again by the tests' writer, taken as the same.
 func TestThereAndBack(t *testing.T) {
 	c := chance{rand.New(rand.NewSource(9))}
 	for i := range 1500 {
@@ -24,6 +25,73 @@ func TestThereAndBack(t *testing.T) {
 		b, _, e := parse.File(mustRead(t, knotOf(a, 0), c.gap))
 		if e != api.OK || !tree.Same(a, b) {
 			t.Fatalf("%v, then %v (%v)", a, b, e)
+		}
+	}
+}
+
+// prints: what tells the trees of each part.
+var prints = map[string]func(api.Tree) (string, api.Errno){"FILE": print.File, "E": print.Expr, "TYPE": print.Type}
+
+// mustPrint asks that what is taken is told by print as a text that is taken as the same tree; it answers that text, which may be too long to be told.
+func mustPrint(t *testing.T, part, s string) (string, api.Errno) {
+	t.Helper()
+	a, at, e := parts[part](s)
+	if e != api.OK {
+		t.Fatalf("%.200q: at %d, %v", s, at, e)
+	}
+	text, e := prints[part](a)
+	if e == api.ErrLong {
+		return text, e
+	}
+	b, at, f := parts[part](text)
+	if e != api.OK || f != api.OK || !tree.Same(a, b) {
+		t.Fatalf("%.200q is told as %.200q, %v, and that is %v, at %d, %v", s, text, e, b, at, f)
+	}
+	return text, e
+}
+
+// P4.3: of each part, whatever blanks, comments and brackets stand in the text.
+func TestPrinted(t *testing.T) {
+	c := chance{rand.New(rand.NewSource(13))}
+	for i := range 3000 {
+		var x *knot
+		switch i % 3 {
+		case 0:
+			x = c.file(i % 5)
+		case 1:
+			x = c.expression(i % 5)
+		case 2:
+			x = c.typeOf(i % 40)
+		}
+		s := mustRead(t, x, c.gap)
+		if _, e := mustPrint(t, partOf(x), s); e != api.OK {
+			t.Fatalf("%q: %v", s, e)
+		}
+	}
+}
+
+// P4.3: a text that is taken may be told as one that is too long; the longest one that is not is taken again.
+func TestPrintedTooLong(t *testing.T) {
+	const deep = 44
+	text := func(calls int) string {
+		return "fn f()->i64" + strings.Repeat("{", deep) + strings.Repeat("f();", calls) + strings.Repeat("}", deep)
+	}
+	line := 4*deep + len("f();") + 1
+	rest := len("fn f() -> i64 ") + deep*(deep-1)/2*4*2 + deep*2*2
+	most := (api.MaxSource - rest) / line
+	if s, e := mustPrint(t, "FILE", text(most)); e != api.OK || len(s) != rest+most*line {
+		t.Errorf("%d calls: %d bytes, %v; want %d", most, len(s), e, rest+most*line)
+	}
+	if s, e := mustPrint(t, "FILE", text(most+1)); e != api.ErrLong || s != "" {
+		t.Errorf("%d calls: %d bytes, %v", most+1, len(s), e)
+	}
+	for long, want := range map[int]api.Errno{13: api.OK, 14: api.ErrLong} {
+		e := strings.Repeat("x", long)
+		for range 4 {
+			e = "f(" + times(8, e, ",") + ")"
+		}
+		if s, got := mustPrint(t, "E", e); got != want || want == api.ErrLong && s != "" {
+			t.Errorf("names of %d bytes: %d bytes, %v", long, len(s), got)
 		}
 	}
 }
