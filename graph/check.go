@@ -47,10 +47,11 @@ func headFault(u api.Unit) (fn, at int, found bool) {
 // pointFault finds the first point that is not as its Op asks.
 func pointFault(u api.Unit) (fn, at int, found bool) {
 	drops := dropsOf(u.Structs)
+	var x scene // one for all points: one each would be new memory for each of very many
 search:
 	for n, g := range u.Fns {
 		for q, p := range g.Points {
-			x := scene{Point: p, unit: u, graph: g, drops: drops}
+			x = scene{Point: p, unit: u, graph: g, drops: drops}
 			for _, may := range [...]func(*scene) bool{(*scene).fieldsMay, (*scene).goesOn, (*scene).placesMay, (*scene).operandsMay, (*scene).opMay} {
 				if !may(&x) {
 					fn, at, found = n, q, true
