@@ -2,10 +2,12 @@ package rules_test
 
 import (
 	"fmt"
+	"slices"
 	"strings"
 	"testing"
 
 	"loanword/api"
+	"loanword/move"
 	"loanword/outlive"
 	"loanword/rules"
 )
@@ -239,24 +241,69 @@ func TestMovedAndUse(t *testing.T) {
 	mustKeep(t, u, 1, true)
 }
 
-// P18.1, P18.2: a point that uses what its own operands have moved is refused, whatever the rows are; once, if that has no value anyway; of several paths the first one is told.
+// P18.1, P18.2: a point that uses what its own operands have moved is refused, whatever the rows are; each path once, if that has no value anyway; all of them are told.
 func TestUseAgain(t *testing.T) {
 	u := unitOf(graphOf(0, 2, "i64; Box<i64>; #0", "_0 = f2(move _1, move _1); return; _0 = f3(move _2, move _2.1); _2.1 = box 1; return"), graphOf(0, 2, "i64; Box<i64>; Box<i64>", "return"), graphOf(0, 2, "i64; #0; Box<i64>", "return"))
 	mustMay(t, u)
-	mustTell(t, u, 1, certOf(t, u, 1, "", "", "0; 1; 3 4; 3"), "use 1 0, use 2 2, use 2 3")
-	mustTell(t, u, 1, certOf(t, u, 1, "", "", "0; 0 1; 3 4; 3"), "use 1 0, use 2 2, use 2 3")
+	mustTell(t, u, 1, certOf(t, u, 1, "", "", "0; 1; 3 4; 3"), "use 1 0, use 2 2, use 3 2, use 2 3")
+	mustTell(t, u, 1, certOf(t, u, 1, "", "", "0; 0 1; 3 4; 3"), "use 1 0, use 2 2, use 3 2, use 2 3")
 	mustTell(t, u, 1, certOf(t, u, 1, "", "", "0; 0 1; 3 4; 2 3"), "use 1 0, use 2 2, use 3 2, use 2 3")
 	mustKeep(t, u, 1, false)
 	u.Fns[1].Points[0] = pointOf("_0 = f2(move _1, move _2.1)", 0)
 	mustKeep(t, u, 1, false) // nobody comes to 2, but it is no point's right
 	u.Fns[1].Points[2] = pointOf("_0 = 1", 2)
 	mustKeep(t, u, 1, true)
-	// what is assigned lies in what was moved
-	u = unitOf(graphOf(0, 1, "i64; #1; Box<#1>", "_1.1 = box move _1; _0 = 1; return"))
-	mustTell(t, u, 1, certOf(t, u, 1, "", "", "0 1; 1 2; ; 0 1 2"), "use 1 0")
-	mustKeep(t, u, 1, false)
-	u.Fns[1].Points[0] = pointOf("_2 = box move _1", 0)
-	mustKeep(t, u, 1, true)
+}
+
+// P18.1: of what a point uses again all paths are told: those in which the place lies, those that lie in it; of what it assigns those in which that lies; of no other.
+func TestAllThatIsUsedAgain(t *testing.T) {
+	called := []api.Graph{graphOf(0, 2, "i64; Box<#0>; i64", "return"), graphOf(0, 2, "i64; Box<i64>; #0", "return"), graphOf(0, 2, "i64; Box<i64>; i64", "return"), graphOf(1, 1, "i64; Box<&'0 mut i64>", "return"), graphOf(1, 2, "i64; #0; &'0 mut i64", "return"), graphOf(0, 4, "i64; i64; Box<i64>; i64; Box<i64>", "return")}
+	for _, x := range []struct{ locals, points, want string }{
+		{"i64; Box<i64>", "_1.* = f4(move _1, copy _1.*)", "use 1 0, use 2 0"},
+		// all that lies in what was moved, as far as it is used: _0 _1 _1.* _1.*.0 _1.*.1
+		{"i64; Box<#0>", "_0 = f2(move _1, copy _1.*.0); _0 = copy _1.*.0; drop _1.*.1", "use 1 0, use 2 0, use 3 0"},
+		{"i64; Box<#0>", "_1.*.0 = f2(move _1, 4); drop _1.*.1", "use 1 0, use 2 0"},
+		// a part was moved: _0 _1 _1.0 _1.1 _1.1.*; the whole uses it, its other parts do not
+		{"i64; #0; Box<i64>", "_0 = f3(move _1.1, move _1); _0 = copy _1.1.*; _0 = copy _1.0", "use 3 0, use 4 0"},
+		{"i64; #0", "_0 = f4(move _1.1, copy _1.0)", ""},
+		{"i64; #0", "_1.0 = f4(move _1.1, 2)", ""},
+		// what is assigned: all that it lies in, but itself: _0 _1 _1.1 _1.1.* _1.1.*.1
+		{"i64; #1", "_1.1.*.1 = box move _1", "use 1 0, use 2 0, use 3 0"},
+		{"i64; #1; Box<#1>", "_1.1 = box move _1", "use 1 0"},
+		{"i64; #1; Box<#1>", "_2 = box move _1", ""},
+		// it goes through a reference: as far as there: _0 _1 _1.*
+		{"i64; Box<&mut i64>", "_1.*.* = f5(move _1)", "use 1 0, use 2 0"},
+		{"i64; #0; &mut i64", "_2.* = f6(move _1, move _2)", "use 2 0"},
+		// several were moved, each one is told once, what is used ahead of it is not: _0 _1 _1.* _2 _2.* _3
+		{"i64; Box<i64>; Box<i64>; i64", "_0 = f7(copy _1.*, move _1, copy _2.*, move _2)", ""},
+		{"i64; Box<i64>; Box<i64>; i64", "_1.* = f7(copy _3, move _2, copy _2.*, move _2)", "use 3 0, use 4 0"},
+		{"i64; Box<i64>; Box<i64>; i64", "_2.* = f7(copy _3, move _2, copy _1.*, move _1)", "use 3 0"},
+		{"i64; Box<i64>; Box<i64>; i64", "_2.* = f7(copy _3, move _2, copy _2.*, move _1); _0 = copy _1.*", "use 3 0, use 4 0"},
+		{"i64; Box<i64>; Box<i64>; i64", "_2.* = f7(copy _2.*, move _1, copy _1.*, move _2)", "use 1 0, use 2 0, use 3 0"},
+	} {
+		u := unitOf(append([]api.Graph{graphOf(0, 0, x.locals, x.points+"; return")}, called...)...)
+		mustMay(t, u)
+		none, all := empty(t, u, 1), whole(t, u, 1)
+		all.Rows, all.Ranges = none.Rows, none.Ranges
+		if got := usedAt(t, u, none, 0); got != x.want {
+			t.Errorf("%s: %s; want %s", x.points, got, x.want)
+		}
+		uses, e := move.Uses(u, 1, 0)
+		want := strings.TrimSuffix(strings.Join(strings.Fields(fmt.Sprint(uses)), " 0, use "), "]")
+		if got := usedAt(t, u, all, 0); e != api.OK || got != "use "+want[1:]+" 0" {
+			t.Errorf("%s: %s; want %s", x.points, got, want)
+		}
+	}
+}
+
+// usedAt is what is broken of RuleUse at a point of the graph 1.
+func usedAt(t *testing.T, u api.Unit, c api.FnCert, q int) string {
+	t.Helper()
+	l, e := rules.Rule(u, 1, c, api.RuleUse)
+	if e != api.OK {
+		t.Fatal(e)
+	}
+	return said(slices.DeleteFunc(l, func(b api.Broken) bool { return b.At != q })...)
 }
 
 // P18.1: which loans which point breaks: by points, of one point by loans, each once; what is not in force is not broken.

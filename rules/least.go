@@ -43,7 +43,7 @@ func (s *scene) leastMoves() []api.Row {
 		}
 		return changed
 	})
-	return turned(rows, s.paths)
+	return turned(rows, len(s.paths))
 }
 
 // settle takes so many steps, one after the other, round and round, till as many in a row have changed nothing.

@@ -31,8 +31,8 @@ type matter struct {
 	kills [][]bool // by point, by loan
 	broke [][]bool
 	start []int
-	uses  [][]int // by point, what it uses again last
-	again []int
+	uses  [][]int // by point; what it uses again last
+	again [][]int
 }
 
 func (m *matter) ok(l ...api.Errno) {
@@ -64,14 +64,49 @@ func matterOf(t *testing.T, u api.Unit, fn int) *matter {
 		m.addLive(q)
 		m.addLoans(q)
 		uses, e := move.Uses(u, fn, q)
-		again, is, f := move.Again(u, fn, q)
-		m.ok(e, f)
-		if !is {
-			again = -1
-		}
-		m.uses, m.again = append(m.uses, uses), append(m.again, again)
+		m.ok(e)
+		m.uses, m.again = append(m.uses, uses), append(m.again, m.usedAgain(q))
 	}
 	return m
+}
+
+// usedAgain are the paths that a point uses though an operand ahead of that use has moved them; layer 17 tells the least.
+func (m *matter) usedAgain(q int) []int {
+	m.t.Helper()
+	s, locals, p := m.u.Structs, m.u.Fns[m.fn].Locals, m.u.Fns[m.fn].Points[q]
+	paths, e := move.Paths(m.u, m.fn)
+	m.ok(e)
+	moved, again := map[int]bool{}, []int{}
+	use := func(p api.Place, whole, itself bool) {
+		held, e := place.Held(s, locals, p)
+		m.ok(e)
+		through := len(held.Path) < len(p.Path)
+		for n, path := range paths {
+			used := place.Prefix(path, held) && (itself || through || len(path.Path) < len(held.Path)) || whole && !through && place.Prefix(held, path)
+			if used && moved[n] && !slices.Contains(again, n) {
+				again = append(again, n)
+			}
+		}
+	}
+	for _, o := range slices.Concat([]api.Operand{p.A, p.B}, p.Args) {
+		if o.Kind == api.Copy || o.Kind == api.Move {
+			use(o.Place, true, true)
+		}
+		for n, path := range paths {
+			moved[n] = moved[n] || o.Kind == api.Move && place.Prefix(o.Place, path)
+		}
+	}
+	if to, is, e := graph.Assigns(m.u, m.fn, q); is {
+		m.ok(e)
+		use(to, false, false)
+	}
+	slices.Sort(again)
+	least, is, e := move.Again(m.u, m.fn, q)
+	m.ok(e)
+	if is != (len(again) > 0) || is && least != again[0] {
+		m.t.Fatalf("%s: Again %d: %d, %v; %v", textOf(m.u, m.fn), q, least, is, again)
+	}
+	return again
 }
 
 func (m *matter) addLive(q int) {
@@ -166,7 +201,7 @@ func (m *matter) broken(c api.FnCert) []api.Broken {
 	l = append(l, m.moved(c)...)
 	l = append(l, byPoints(m.each(api.RuleBreak, s.loans, s.points, func(k, q int) bool { return bits.Get(c.Ranges[k], q) && m.broke[q][k] }))...)
 	return append(l, byPoints(m.each(api.RuleUse, s.paths, s.points, func(p, q int) bool {
-		return slices.Contains(m.uses[q], p) && bits.Get(c.Moves[p], q) || m.again[q] == p
+		return slices.Contains(m.uses[q], p) && bits.Get(c.Moves[p], q) || slices.Contains(m.again[q], p)
 	}))...)
 }
 

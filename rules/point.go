@@ -107,9 +107,9 @@ func (s *scene) breaking(a api.Access) api.Row {
 
 // start answers the rows of points that say which paths are without a value ahead of the first one.
 func (s *scene) start() []api.Row {
-	rows := rowsOf(len(s.points), s.paths)
+	rows := rowsOf(len(s.points), len(s.paths))
 	gone, _ := move.Start(s.unit, s.fn)
-	add(rows[0], rowOf(s.paths, gone...))
+	add(rows[0], s.rowOfPaths(gone...))
 	return rows
 }
 
@@ -118,7 +118,7 @@ func (s *scene) behind(q int, without api.Row) api.Row {
 	if s.deeds == nil {
 		for q := range s.points {
 			gone, has, _ := move.Does(s.unit, s.fn, q)
-			s.deeds = append(s.deeds, deed{rowOf(s.paths, gone...), rowOf(s.paths, has...)})
+			s.deeds = append(s.deeds, deed{s.rowOfPaths(gone...), s.rowOfPaths(has...)})
 		}
 	}
 	r, _ := bits.Or(without, s.deeds[q].gone)

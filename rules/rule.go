@@ -113,7 +113,7 @@ func (h held) moved(tell teller) {
 			add(must[to], h.behind(q, without))
 		}
 	}
-	lacking(h.Moves, turned(must, h.paths), tell)
+	lacking(h.Moves, turned(must, len(h.paths)), tell)
 }
 
 // unbroken: no point breaks a loan that is in force there.
@@ -125,14 +125,12 @@ func (h held) unbroken(tell teller) {
 	}
 }
 
-// used: no point uses what may be without a value there, or what it has moved itself. Of several that it has moved itself layer 17 tells the first one.
+// used: no point uses what may be without a value there, or what it has moved itself.
 func (h held) used(tell teller) {
 	for q, without := range turned(h.Moves, len(h.points)) {
 		uses, _ := move.Uses(h.unit, h.fn, q)
-		empty, _ := bits.And(rowOf(h.paths, uses...), without)
-		if path, is, _ := move.Again(h.unit, h.fn, q); is {
-			put(empty, path)
-		}
+		empty, _ := bits.And(h.rowOfPaths(uses...), without)
+		add(empty, h.again(q))
 		for path := range bits.Each(empty) {
 			tell(path, q)
 		}

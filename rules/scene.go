@@ -17,7 +17,7 @@ type scene struct {
 	points   []api.Point
 	regions  api.Regions
 	loans    []api.Loan
-	paths    int
+	paths    []api.Place
 	deeds    []deed             // of each point, from when they are first asked for
 	brokenBy map[access]api.Row // which loans an access breaks, of those that were asked for
 }
@@ -34,7 +34,7 @@ func sceneOf(u api.Unit, fn int) (*scene, api.Errno) {
 		return nil, e
 	}
 	loans, _ := loan.Of(u, fn)
-	return &scene{unit: u, fn: fn, points: u.Fns[fn].Points, regions: r, loans: loans, paths: len(paths), brokenBy: map[access]api.Row{}}, api.OK
+	return &scene{unit: u, fn: fn, points: u.Fns[fn].Points, regions: r, loans: loans, paths: paths, brokenBy: map[access]api.Row{}}, api.OK
 }
 
 // scenesOf answers the scenes of all graphs of a unit.
@@ -74,7 +74,7 @@ func (s *scene) misfit(c api.FnCert) (what int, is bool) {
 		return 1, true
 	case !areRows(c.Ranges, len(s.loans), len(s.points)):
 		return 2, true
-	case !areRows(c.Moves, s.paths, len(s.points)):
+	case !areRows(c.Moves, len(s.paths), len(s.points)):
 		return 3, true
 	}
 	return 0, false
